@@ -1,0 +1,1 @@
+"""Ruled numbers: whole numbers, sums, products, quotients, square roots, told exactly."""
