@@ -1,7 +1,11 @@
 """The calls: each takes a row of steps, one list of four whole numbers a step, and answers a list."""
 
+from ruledroots.doubles import double_of
+from ruledroots.near import floor_over
 from ruledroots.steps import MINUS, MOST_STEPS, OVER, PLUS, ROOT, TIMES, WHOLE, first_wrong, steps_of
-from ruledroots.tower import minus, over, plus, root, sign_of, times, whole
+from ruledroots.tower import minus, over, plus, root, sign_of, times, whole, widened
+
+LAST_MODE = 3
 
 
 def sign(p):
@@ -18,6 +22,23 @@ def order(i, j, p):
     if i >= len(row.numbers) or j >= len(row.numbers):
         return [-4]
     return [1 + sign_of(minus(row.numbers[i], row.numbers[j]), row.roots)]
+
+
+def floor(p):
+    row = row_of(p)
+    if row.refusal != []:
+        return row.refusal
+    x = row.numbers[-1]
+    return [0, 1, floor_over(x.parts, widened([x.under], len(x.parts)), row.roots)]
+
+
+def double(mode, p):
+    row = row_of(p)
+    if row.refusal != []:
+        return row.refusal
+    if mode > LAST_MODE:
+        return [-4]
+    return [0, 1, double_of(mode, row.numbers[-1], row.roots)]
 
 
 # A row as far as it can be made. refusal is empty, or the whole answer; then

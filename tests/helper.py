@@ -5,6 +5,9 @@ two ends, and takes a number for 0 when both ends are nearer to 0 than any
 other number of such a weight can be.
 """
 import decimal
+import math
+import struct
+from fractions import Fraction
 
 WHOLE, PLUS, MINUS, TIMES, OVER, ROOT = range(6)
 
@@ -44,8 +47,64 @@ class Row:
         return self.root(self.whole(v))
 
 
+    def power(self, v, n):
+        """The n-th power of v, each factor a step of its own."""
+        return self.product(*[v] * n)
+
+    def product(self, *values):
+        """The product of whole numbers, each a step of its own."""
+        last = self.whole(values[0])
+        for v in values[1:]:
+            last = self.times(last, self.whole(v))
+        return last
+
+    def fraction(self, top, bottom):
+        return self.over(self.whole(top), self.whole(bottom))
+
+    def negative(self, a):
+        return self.minus(self.whole(0), a)
+
+
 def flat(*steps):
     return [number for step in steps for number in step]
+
+
+def pell(limit):
+    """The largest x, y with x x - 2 y y = 1 and the largest with -1, x up to the limit."""
+    x, y = 1, 1
+    found = {}
+    while x <= limit:
+        found[x * x - 2 * y * y] = (x, y)
+        x, y = x + 2 * y, x + y
+    return found
+
+
+def double_bits(number):
+    """The 64 bits of one of Python's own doubles, as a number."""
+    return struct.unpack("<Q", struct.pack("<d", number))[0]
+
+
+def nearest_double(fraction):
+    try:
+        # Python divides whole numbers to the nearest double, of two as near to the even one.
+        return fraction.numerator / fraction.denominator
+    except OverflowError:
+        return math.inf if fraction > 0 else -math.inf
+
+
+def rounded_bits(mode, fraction):
+    """The 64 bits of the double to which a fraction is rounded by a mode."""
+    nearest = nearest_double(fraction)
+    low = high = nearest
+    # Python compares a double with a fraction exactly.
+    if nearest > fraction:
+        low = math.nextafter(nearest, -math.inf)
+    elif nearest < fraction:
+        high = math.nextafter(nearest, math.inf)
+    chosen = (nearest, low, high, low if fraction > 0 else high)[mode]
+    if chosen == 0:
+        chosen = -0.0 if fraction < 0 else 0.0
+    return double_bits(chosen)
 
 
 # A difference of two numbers of weight 256 over three roots has the degree 8
@@ -111,3 +170,48 @@ def span_of(step, made):
     if op == OVER and span_sign(made[b]) == 0:
         return -2, None
     return 0, SPAN_OF_TWO[op](made[a], made[b])
+
+
+def spans_of(p):
+    """The spans of all steps of a row that is refused nowhere."""
+    made = []
+    for k in range(0, len(p), 4):
+        refusal, span = span_of(p[k:k + 4], made)
+        if refusal:
+            raise ArithmeticError("can't be")
+        made.append(span)
+    return made
+
+
+def simplest_between(low, high, limit):
+    """The fraction of the least denominator from low to high; None, if it's above the limit."""
+    tops = (0, 1)
+    bottoms = (1, 0)
+    # Two whole numbers each, as fractions would be brought to lowest terms again and again.
+    low = (low.numerator, low.denominator)
+    high = (high.numerator, high.denominator)
+    while bottoms[1] <= limit:
+        term, rest = divmod(*low)
+        last = rest == 0 or high[0] // high[1] > term
+        if last and rest != 0:
+            term += 1
+        tops = (tops[1], term * tops[1] + tops[0])
+        bottoms = (bottoms[1], term * bottoms[1] + bottoms[0])
+        if last:
+            return Fraction(tops[1], bottoms[1])
+        low, high = (high[1], high[0] - term * high[1]), (low[1], rest)
+    return None
+
+
+def stand_in(span):
+    """The number as a fraction, if it is one; else a fraction that agrees with it in nearly all of its digits.
+
+    A fraction of few digits that lies between two ends of so many is taken to be the number.
+    """
+    low, high = Fraction(span[0]), Fraction(span[1])
+    simplest = simplest_between(low, high, 10 ** 700)
+    return low if simplest is None else simplest
+
+
+def number_of(p):
+    return stand_in(spans_of(p)[-1])

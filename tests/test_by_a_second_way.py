@@ -1,9 +1,11 @@
-"""A1, A2, A5: many rows, told wrong nowhere, against decimals of three thousand digits."""
+"""A1, A2, A3, A5: many rows, told wrong nowhere, against decimals of three thousand digits."""
+import math
 import random
 import unittest
 
-from ruledroots.rows import order, sign
-from tests.helper import GREATEST, LEAST, MINUS, OVER, PLUS, ROOT, TIMES, WHOLE, span_minus, span_of, span_sign
+from ruledroots.rows import double, floor, order, sign
+from tests.helper import (
+    GREATEST, LEAST, MINUS, OVER, PLUS, ROOT, TIMES, WHOLE, rounded_bits, span_minus, span_of, span_sign, stand_in)
 
 # Squares and their factors, so that many numbers are made in several ways.
 SMALL = (-2, -1, 0, 1, 2, 3, 4, 5, 6, 8, 9, 12, 16, 25, 49)
@@ -65,7 +67,13 @@ class SecondWay(unittest.TestCase):
         for i in range(len(made)):
             j = rng.randrange(len(made))
             self.assertEqual(order(i, j, p), [1 + span_sign(span_minus(made[i], made[j]))], (i, j, p))
+        self.agree_on_number(p, stand_in(made[-1]))
         return told[0]
+
+    def agree_on_number(self, p, number):
+        self.assertEqual(floor(p), [0, 1, math.floor(number)], p)
+        for mode in range(4):
+            self.assertEqual(double(mode, p), [0, 1, rounded_bits(mode, number)], (mode, p))
 
     def test_many_rows(self):
         rng = random.Random(20261116)

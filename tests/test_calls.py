@@ -4,11 +4,14 @@ import inspect
 import io
 import sys
 import unittest
+from pathlib import Path
 from unittest import mock
 
 from ruledroots import rows
-from ruledroots.rows import order, sign
+from ruledroots.rows import double, floor, order, sign
 from tests.helper import GREATEST, ROOT, Row
+
+README = Path(__file__).resolve().parent.parent / "README.md"
 
 
 def nothing():
@@ -35,25 +38,47 @@ def rows_of_each_kind():
     }
 
 
+# Each call with what is handed over ahead of the row, refused at the end and not.
+CALLS = {
+    sign: ([],),
+    order: ([0, 0], [1, 0], [0, 1], [0, 33], [33, 0]),
+    floor: ([],),
+    double: ([0], [1], [2], [3], [4]),
+}
+
+
+def answers_of(p):
+    """What each call answers."""
+    return [call(*first, p) for call, firsts in CALLS.items() for first in firsts]
+
+
 class Calls(unittest.TestCase):
     def test_arguments(self):
-        self.assertEqual(list(inspect.signature(sign).parameters), ["p"])
-        self.assertEqual(list(inspect.signature(order).parameters), ["i", "j", "p"])
+        names = {sign: ["p"], order: ["i", "j", "p"], floor: ["p"], double: ["mode", "p"]}
+        self.assertEqual(list(names), list(CALLS))
         p = nothing()
-        self.assertEqual(rows.sign(p=p), sign(p))
-        self.assertEqual(rows.order(i=1, j=2, p=p), order(1, 2, p))
+        for call, expected in names.items():
+            self.assertEqual(list(inspect.signature(call).parameters), expected)
+            self.assertIs(getattr(rows, call.__name__), call)
+            for first in CALLS[call]:
+                self.assertEqual(call(**dict(zip(expected, [*first, p]))), call(*first, p))
 
     def test_answers(self):
-        answers = {
+        refusals = {
             "none": [-7], "many": [-7], "wrong": [-1, 1, 1], "over zero": [-2, 1, 1], "root below": [-3, 1, 1],
-            "zero": [1], "above": [2], "below": [0],
+        }
+        answers = {
+            "zero": ([1], [0, 1, 0], [0, 1, 0]),
+            "above": ([2], [0, 1, 2], [0, 1, 0x4003504F333F9DE6]),
+            "below": ([0], [0, 1, -GREATEST], [0, 1, 0xC1DFFFFFFFC00000]),
         }
         for name, p in rows_of_each_kind().items():
-            self.assertEqual(sign(p), answers[name], name)
+            told = (sign(p), floor(p), double(0, p))
+            self.assertEqual(told, answers.get(name) or (refusals[name],) * len(told), name)
 
     def test_answers_are_lists_of_whole_numbers(self):
         for p in rows_of_each_kind().values():
-            for answer in (sign(p), order(0, 0, p), order(0, 33, p)):
+            for answer in answers_of(p):
                 self.assertIs(type(answer), list)
                 for number in answer:
                     self.assertIs(type(number), int)
@@ -61,10 +86,10 @@ class Calls(unittest.TestCase):
     def test_list_is_the_same_afterwards(self):
         for p in rows_of_each_kind().values():
             before = list(p)
-            sign(p)
-            self.assertEqual(p, before)
-            order(0, 1, p)
-            self.assertEqual(p, before)
+            for call, firsts in CALLS.items():
+                for first in firsts:
+                    call(*first, p)
+                    self.assertEqual(p, before)
 
     def test_list_is_not_changed_for_a_while_either(self):
         class Watched(list):
@@ -74,24 +99,36 @@ class Calls(unittest.TestCase):
             append = extend = insert = pop = remove = clear = sort = reverse = refuse
 
         for p in rows_of_each_kind().values():
-            sign(Watched(p))
-            order(0, 0, Watched(p))
+            answers_of(Watched(p))
 
     def test_second_call_answers_as_the_first(self):
         given = rows_of_each_kind()
-        first = {name: (sign(p), order(0, 1, p), order(1, 0, p)) for name, p in given.items()}
+        first = {name: answers_of(p) for name, p in given.items()}
         for name in reversed(list(given)):
-            p = given[name]
-            self.assertEqual((sign(p), order(0, 1, p), order(1, 0, p)), first[name])
-            self.assertEqual((sign(list(p)), order(0, 1, list(p)), order(1, 0, list(p))), first[name])
+            self.assertEqual(answers_of(given[name]), first[name])
+            self.assertEqual(answers_of(list(given[name])), first[name])
 
     def test_answers_may_be_changed(self):
         for p in rows_of_each_kind().values():
-            first = sign(p)
-            kept = list(first)
-            first.append(99)
-            first[0] = 98
-            self.assertEqual(sign(p), kept)
+            kept = [list(answer) for answer in answers_of(p)]
+            for answer in answers_of(p):
+                answer.append(99)
+                answer[0] = 98
+            self.assertEqual(answers_of(p), kept)
+
+    def test_examples_of_the_readme(self):
+        text = README.read_text(encoding="utf-8").split("```python\n")[1].split("```")[0]
+        names = {}
+        shown = []
+        for line in text.splitlines():
+            call, _, told = line.partition("  # ")
+            if told:
+                shown.append((eval(call, names), told.split(":")[0]))
+            else:
+                exec(line, names)
+        self.assertGreaterEqual(len(shown), len(CALLS))
+        for answer, told in shown:
+            self.assertEqual(str(answer), told)
 
     def test_a_refused_row_leaves_nothing_behind(self):
         row = Row()
@@ -113,8 +150,7 @@ class Calls(unittest.TestCase):
                 mock.patch("builtins.__import__", refuse), mock.patch("builtins.open", refuse), \
                 mock.patch("sys.stdin", None):
             for p in given:
-                sign(p)
-                order(0, 0, p)
+                answers_of(p)
         self.assertEqual(out.getvalue(), "")
         self.assertEqual(set(sys.modules), modules)
 

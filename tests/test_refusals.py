@@ -1,7 +1,7 @@
 """A5: what is refused, in which order, and just as told."""
 import unittest
 
-from ruledroots.rows import order, sign
+from ruledroots.rows import double, floor, order, sign
 from tests.helper import GREATEST, LEAST, MINUS, OVER, PLUS, ROOT, TIMES, WHOLE, Row, flat
 
 ONE = (WHOLE, 0, 0, 1)
@@ -13,16 +13,22 @@ FAR = 9223372036854775807
 
 class Refusals(unittest.TestCase):
     def refused(self, answer, *steps):
-        """Both calls refuse alike; order does so for any i and j, as -4 comes last."""
+        """All calls refuse alike, for any i and j and mode, as -4 comes last."""
         p = flat(*steps)
         self.assertEqual(sign(p), answer)
         for i, j in ((0, 0), (0, FAR), (FAR, 0), (40, 40)):
             self.assertEqual(order(i, j, p), answer)
+        self.assertEqual(floor(p), answer)
+        for mode in (0, 1, 2, 3, 4, FAR):
+            self.assertEqual(double(mode, p), answer)
 
     def taken(self, *steps):
         p = flat(*steps)
         self.assertGreaterEqual(sign(p)[0], 0)
         self.assertEqual(order(0, 0, p), [1])
+        self.assertEqual(floor(p)[:2], [0, 1])
+        for mode in range(4):
+            self.assertEqual(double(mode, p)[:2], [0, 1])
 
 
 class TooFewTooMany(Refusals):
@@ -209,6 +215,15 @@ class NotAStep(unittest.TestCase):
         self.assertEqual(order(30, 31, full), [2])
         self.assertEqual(order(32, 30, full), [-4])
         self.assertEqual(order(30, 32, full), [-4])
+
+
+class NotAMode(unittest.TestCase):
+    def test_above_three(self):
+        for steps in ((ONE,), (ZERO,), (MINUS_ONE,), (ONE, ONE, (PLUS, 0, 1, 0), (ROOT, 2, 0, 0)), [ONE] * 32):
+            for mode in (4, 5, 255, 2 ** 32, FAR):
+                self.assertEqual(double(mode, flat(*steps)), [-4])
+            for mode in range(4):
+                self.assertEqual(double(mode, flat(*steps))[:2], [0, 1])
 
 
 if __name__ == "__main__":

@@ -3,7 +3,7 @@ import unittest
 from math import isqrt
 
 from ruledroots.rows import order, sign
-from tests.helper import GREATEST, LEAST, Row
+from tests.helper import GREATEST, LEAST, Row, pell
 
 LESS, SAME, GREATER = [0], [1], [2]
 
@@ -290,16 +290,6 @@ class DivisionBySums(Numbers):
         self.compare(row, part, row.over(row.whole(990), row.whole(100)), LESS)
         again = row.over(row.whole(1), part)
         self.compare(row, row.over(row.whole(1), again), part, SAME)
-
-
-def pell(limit):
-    """The largest x, y with x x - 2 y y = 1 and the largest with -1, x up to the limit."""
-    x, y = 1, 1
-    found = {}
-    while x <= limit:
-        found[x * x - 2 * y * y] = (x, y)
-        x, y = x + 2 * y, x + y
-    return found
 
 
 class NearNumbers(Numbers):
