@@ -1,11 +1,15 @@
 """The calls: each takes a row of steps, one list of four whole numbers a step, and answers a list."""
 
+from ruledroots.digits import digits_of
 from ruledroots.doubles import double_of
+from ruledroots.fraction import terms_of
 from ruledroots.near import floor_over
 from ruledroots.steps import MINUS, MOST_STEPS, OVER, PLUS, ROOT, TIMES, WHOLE, first_wrong, steps_of
 from ruledroots.tower import minus, over, plus, root, sign_of, times, whole, widened
 
 LAST_MODE = 3
+MOST_PLACES = 100
+MOST_TERMS = 16
 
 
 def sign(p):
@@ -39,6 +43,26 @@ def double(mode, p):
     if mode > LAST_MODE:
         return [-4]
     return [0, 1, double_of(mode, row.numbers[-1], row.roots)]
+
+
+def text(places, p):
+    row = row_of(p)
+    if row.refusal != []:
+        return row.refusal
+    if places > MOST_PLACES:
+        return [-4]
+    shown = digits_of(places, row.numbers[-1], row.roots)
+    return [len(shown), len(shown)] + [ord(letter) for letter in shown]
+
+
+def terms(k, p):
+    row = row_of(p)
+    if row.refusal != []:
+        return row.refusal
+    if k < 1 or k > MOST_TERMS:
+        return [-4]
+    found = terms_of(k, row.numbers[-1], row.roots)
+    return [len(found), len(found)] + found
 
 
 # A row as far as it can be made. refusal is empty, or the whole answer; then

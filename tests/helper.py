@@ -107,6 +107,32 @@ def rounded_bits(mode, fraction):
     return double_bits(chosen)
 
 
+def decimal_text(fraction, places):
+    """A fraction in decimal, rounded to so many places."""
+    # Python rounds a fraction to the nearest whole number, of two as near to the even one.
+    units = round(abs(fraction) * 10 ** places)
+    digits = str(units // 10 ** places)
+    if places > 0:
+        digits += "." + str(units % 10 ** places).rjust(places, "0")
+    return "-" + digits if fraction < 0 and units != 0 else digits
+
+
+def text_answer(expected):
+    return [len(expected)] * 2 + list(expected.encode("ascii"))
+
+
+def first_terms(fraction, count):
+    """The first terms of a fraction's continued fraction, or all."""
+    found = []
+    while len(found) < count:
+        found.append(math.floor(fraction))
+        fraction -= found[-1]
+        if fraction == 0:
+            break
+        fraction = 1 / fraction
+    return found
+
+
 # A difference of two numbers of weight 256 over three roots has the degree 8
 # and the weight 513 at most: if it isn't 0, it isn't below 2^-(8 * 513).
 NEAREST_TO_ZERO = decimal.Decimal(10) ** -1300

@@ -3,9 +3,10 @@ import math
 import random
 import unittest
 
-from ruledroots.rows import double, floor, order, sign
+from ruledroots.rows import double, floor, order, sign, terms, text
 from tests.helper import (
-    GREATEST, LEAST, MINUS, OVER, PLUS, ROOT, TIMES, WHOLE, rounded_bits, span_minus, span_of, span_sign, stand_in)
+    GREATEST, LEAST, MINUS, OVER, PLUS, ROOT, TIMES, WHOLE, decimal_text, first_terms, rounded_bits, span_minus,
+    span_of, span_sign, stand_in, text_answer)
 
 # Squares and their factors, so that many numbers are made in several ways.
 SMALL = (-2, -1, 0, 1, 2, 3, 4, 5, 6, 8, 9, 12, 16, 25, 49)
@@ -74,6 +75,11 @@ class SecondWay(unittest.TestCase):
         self.assertEqual(floor(p), [0, 1, math.floor(number)], p)
         for mode in range(4):
             self.assertEqual(double(mode, p), [0, 1, rounded_bits(mode, number)], (mode, p))
+        for places in (0, 1, 2, 17, 100):
+            self.assertEqual(text(places, p), text_answer(decimal_text(number, places)), (places, p))
+        for k in (1, 16):
+            found = first_terms(number, k)
+            self.assertEqual(terms(k, p), [len(found)] * 2 + found, (k, p))
 
     def test_many_rows(self):
         rng = random.Random(20261116)

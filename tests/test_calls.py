@@ -8,8 +8,8 @@ from pathlib import Path
 from unittest import mock
 
 from ruledroots import rows
-from ruledroots.rows import double, floor, order, sign
-from tests.helper import GREATEST, ROOT, Row
+from ruledroots.rows import double, floor, order, sign, terms, text
+from tests.helper import GREATEST, ROOT, Row, text_answer
 
 README = Path(__file__).resolve().parent.parent / "README.md"
 
@@ -44,6 +44,8 @@ CALLS = {
     order: ([0, 0], [1, 0], [0, 1], [0, 33], [33, 0]),
     floor: ([],),
     double: ([0], [1], [2], [3], [4]),
+    text: ([0], [5], [100], [101]),
+    terms: ([0], [1], [5], [16], [17]),
 }
 
 
@@ -54,7 +56,10 @@ def answers_of(p):
 
 class Calls(unittest.TestCase):
     def test_arguments(self):
-        names = {sign: ["p"], order: ["i", "j", "p"], floor: ["p"], double: ["mode", "p"]}
+        names = {
+            sign: ["p"], order: ["i", "j", "p"], floor: ["p"], double: ["mode", "p"], text: ["places", "p"],
+            terms: ["k", "p"],
+        }
         self.assertEqual(list(names), list(CALLS))
         p = nothing()
         for call, expected in names.items():
@@ -68,12 +73,13 @@ class Calls(unittest.TestCase):
             "none": [-7], "many": [-7], "wrong": [-1, 1, 1], "over zero": [-2, 1, 1], "root below": [-3, 1, 1],
         }
         answers = {
-            "zero": ([1], [0, 1, 0], [0, 1, 0]),
-            "above": ([2], [0, 1, 2], [0, 1, 0x4003504F333F9DE6]),
-            "below": ([0], [0, 1, -GREATEST], [0, 1, 0xC1DFFFFFFFC00000]),
+            "zero": ([1], [0, 1, 0], [0, 1, 0], text_answer("0.0"), [1, 1, 0]),
+            "above": ([2], [0, 1, 2], [0, 1, 0x4003504F333F9DE6], text_answer("2.4"), [2, 2, 2, 2]),
+            "below": ([0], [0, 1, -GREATEST], [0, 1, 0xC1DFFFFFFFC00000], text_answer("-2147483647.0"),
+                      [1, 1, -GREATEST]),
         }
         for name, p in rows_of_each_kind().items():
-            told = (sign(p), floor(p), double(0, p))
+            told = (sign(p), floor(p), double(0, p), text(1, p), terms(2, p))
             self.assertEqual(told, answers.get(name) or (refusals[name],) * len(told), name)
 
     def test_answers_are_lists_of_whole_numbers(self):

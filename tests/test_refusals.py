@@ -1,7 +1,7 @@
 """A5: what is refused, in which order, and just as told."""
 import unittest
 
-from ruledroots.rows import double, floor, order, sign
+from ruledroots.rows import double, floor, order, sign, terms, text
 from tests.helper import GREATEST, LEAST, MINUS, OVER, PLUS, ROOT, TIMES, WHOLE, Row, flat
 
 ONE = (WHOLE, 0, 0, 1)
@@ -13,7 +13,7 @@ FAR = 9223372036854775807
 
 class Refusals(unittest.TestCase):
     def refused(self, answer, *steps):
-        """All calls refuse alike, for any i and j and mode, as -4 comes last."""
+        """All calls refuse alike, for any i, j, mode, places and k, as -4 comes last."""
         p = flat(*steps)
         self.assertEqual(sign(p), answer)
         for i, j in ((0, 0), (0, FAR), (FAR, 0), (40, 40)):
@@ -21,6 +21,10 @@ class Refusals(unittest.TestCase):
         self.assertEqual(floor(p), answer)
         for mode in (0, 1, 2, 3, 4, FAR):
             self.assertEqual(double(mode, p), answer)
+        for places in (0, 1, 100, 101, FAR):
+            self.assertEqual(text(places, p), answer)
+        for k in (0, 1, 16, 17, FAR):
+            self.assertEqual(terms(k, p), answer)
 
     def taken(self, *steps):
         p = flat(*steps)
@@ -29,6 +33,10 @@ class Refusals(unittest.TestCase):
         self.assertEqual(floor(p)[:2], [0, 1])
         for mode in range(4):
             self.assertEqual(double(mode, p)[:2], [0, 1])
+        for places in (0, 100):
+            self.assertGreaterEqual(text(places, p)[0], places + 1)
+        for k in (1, 16):
+            self.assertGreaterEqual(terms(k, p)[0], 1)
 
 
 class TooFewTooMany(Refusals):
@@ -217,13 +225,37 @@ class NotAStep(unittest.TestCase):
         self.assertEqual(order(30, 32, full), [-4])
 
 
+# Rows that nothing else is wrong with: numbers below 0, 0 and above, of one step, of roots, of as many steps as may be.
+FINE = ([ONE], [ZERO], [MINUS_ONE], [ONE, ONE, (PLUS, 0, 1, 0), (ROOT, 2, 0, 0)], [ONE] * 32)
+
+
 class NotAMode(unittest.TestCase):
     def test_above_three(self):
-        for steps in ((ONE,), (ZERO,), (MINUS_ONE,), (ONE, ONE, (PLUS, 0, 1, 0), (ROOT, 2, 0, 0)), [ONE] * 32):
+        for steps in FINE:
             for mode in (4, 5, 255, 2 ** 32, FAR):
                 self.assertEqual(double(mode, flat(*steps)), [-4])
             for mode in range(4):
                 self.assertEqual(double(mode, flat(*steps))[:2], [0, 1])
+
+
+class TooManyPlaces(unittest.TestCase):
+    def test_above_a_hundred(self):
+        for steps in FINE:
+            for places in (101, 102, 1000, 2 ** 32, FAR):
+                self.assertEqual(text(places, flat(*steps)), [-4])
+            for places in (0, 1, 99, 100):
+                answer = text(places, flat(*steps))
+                self.assertEqual(answer[:2], [len(answer) - 2] * 2)
+
+
+class NotACountOfTerms(unittest.TestCase):
+    def test_none_and_above_sixteen(self):
+        for steps in FINE:
+            for k in (0, 17, 18, 255, 2 ** 32, FAR):
+                self.assertEqual(terms(k, flat(*steps)), [-4])
+            for k in (1, 2, 15, 16):
+                answer = terms(k, flat(*steps))
+                self.assertEqual(answer[:2], [len(answer) - 2] * 2)
 
 
 if __name__ == "__main__":
