@@ -2,7 +2,7 @@
 
 from ruledroots.digits import digits_of
 from ruledroots.doubles import double_of
-from ruledroots.fraction import terms_of
+from ruledroots.fraction import fraction_of, terms_of
 from ruledroots.near import floor_over
 from ruledroots.steps import MINUS, MOST_STEPS, OVER, PLUS, ROOT, TIMES, WHOLE, first_wrong, steps_of
 from ruledroots.tower import minus, over, plus, root, sign_of, times, whole, widened
@@ -63,6 +63,16 @@ def terms(k, p):
         return [-4]
     found = terms_of(k, row.numbers[-1], row.roots)
     return [len(found), len(found)] + found
+
+
+def ratio(p):
+    row = row_of(p)
+    if row.refusal != []:
+        return row.refusal
+    found = fraction_of(row.numbers[-1], row.roots)
+    if found is None:
+        return [0]
+    return [1, 2, found[0], found[1]]
 
 
 # A row as far as it can be made. refusal is empty, or the whole answer; then

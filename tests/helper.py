@@ -121,6 +121,11 @@ def text_answer(expected):
     return [len(expected)] * 2 + list(expected.encode("ascii"))
 
 
+def ratio_answer(fraction):
+    n, d = fraction.numerator, fraction.denominator
+    return [1, 2, n, d] if max(abs(n), d) < 2 ** 31 else [0]
+
+
 def first_terms(fraction, count):
     """The first terms of a fraction's continued fraction, or all."""
     found = []

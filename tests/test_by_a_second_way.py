@@ -1,12 +1,12 @@
-"""A1, A2, A3, A5: many rows, told wrong nowhere, against decimals of three thousand digits."""
+"""A1 to A5: many rows, told wrong nowhere, against decimals of three thousand digits."""
 import math
 import random
 import unittest
 
-from ruledroots.rows import double, floor, order, sign, terms, text
+from ruledroots.rows import double, floor, order, ratio, sign, terms, text
 from tests.helper import (
-    GREATEST, LEAST, MINUS, OVER, PLUS, ROOT, TIMES, WHOLE, decimal_text, first_terms, rounded_bits, span_minus,
-    span_of, span_sign, stand_in, text_answer)
+    GREATEST, LEAST, MINUS, OVER, PLUS, ROOT, TIMES, WHOLE, decimal_text, first_terms, ratio_answer, rounded_bits,
+    span_minus, span_of, span_sign, stand_in, text_answer)
 
 # Squares and their factors, so that many numbers are made in several ways.
 SMALL = (-2, -1, 0, 1, 2, 3, 4, 5, 6, 8, 9, 12, 16, 25, 49)
@@ -80,6 +80,7 @@ class SecondWay(unittest.TestCase):
         for k in (1, 16):
             found = first_terms(number, k)
             self.assertEqual(terms(k, p), [len(found)] * 2 + found, (k, p))
+        self.assertEqual(ratio(p), ratio_answer(number), p)
 
     def test_many_rows(self):
         rng = random.Random(20261116)

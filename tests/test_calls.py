@@ -8,7 +8,7 @@ from pathlib import Path
 from unittest import mock
 
 from ruledroots import rows
-from ruledroots.rows import double, floor, order, sign, terms, text
+from ruledroots.rows import double, floor, order, ratio, sign, terms, text
 from tests.helper import GREATEST, ROOT, Row, text_answer
 
 README = Path(__file__).resolve().parent.parent / "README.md"
@@ -46,6 +46,7 @@ CALLS = {
     double: ([0], [1], [2], [3], [4]),
     text: ([0], [5], [100], [101]),
     terms: ([0], [1], [5], [16], [17]),
+    ratio: ([],),
 }
 
 
@@ -58,7 +59,7 @@ class Calls(unittest.TestCase):
     def test_arguments(self):
         names = {
             sign: ["p"], order: ["i", "j", "p"], floor: ["p"], double: ["mode", "p"], text: ["places", "p"],
-            terms: ["k", "p"],
+            terms: ["k", "p"], ratio: ["p"],
         }
         self.assertEqual(list(names), list(CALLS))
         p = nothing()
@@ -73,13 +74,13 @@ class Calls(unittest.TestCase):
             "none": [-7], "many": [-7], "wrong": [-1, 1, 1], "over zero": [-2, 1, 1], "root below": [-3, 1, 1],
         }
         answers = {
-            "zero": ([1], [0, 1, 0], [0, 1, 0], text_answer("0.0"), [1, 1, 0]),
-            "above": ([2], [0, 1, 2], [0, 1, 0x4003504F333F9DE6], text_answer("2.4"), [2, 2, 2, 2]),
+            "zero": ([1], [0, 1, 0], [0, 1, 0], text_answer("0.0"), [1, 1, 0], [1, 2, 0, 1]),
+            "above": ([2], [0, 1, 2], [0, 1, 0x4003504F333F9DE6], text_answer("2.4"), [2, 2, 2, 2], [0]),
             "below": ([0], [0, 1, -GREATEST], [0, 1, 0xC1DFFFFFFFC00000], text_answer("-2147483647.0"),
-                      [1, 1, -GREATEST]),
+                      [1, 1, -GREATEST], [1, 2, -GREATEST, 1]),
         }
         for name, p in rows_of_each_kind().items():
-            told = (sign(p), floor(p), double(0, p), text(1, p), terms(2, p))
+            told = (sign(p), floor(p), double(0, p), text(1, p), terms(2, p), ratio(p))
             self.assertEqual(told, answers.get(name) or (refusals[name],) * len(told), name)
 
     def test_answers_are_lists_of_whole_numbers(self):

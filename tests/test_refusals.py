@@ -1,7 +1,7 @@
 """A5: what is refused, in which order, and just as told."""
 import unittest
 
-from ruledroots.rows import double, floor, order, sign, terms, text
+from ruledroots.rows import double, floor, order, ratio, sign, terms, text
 from tests.helper import GREATEST, LEAST, MINUS, OVER, PLUS, ROOT, TIMES, WHOLE, Row, flat
 
 ONE = (WHOLE, 0, 0, 1)
@@ -25,6 +25,7 @@ class Refusals(unittest.TestCase):
             self.assertEqual(text(places, p), answer)
         for k in (0, 1, 16, 17, FAR):
             self.assertEqual(terms(k, p), answer)
+        self.assertEqual(ratio(p), answer)
 
     def taken(self, *steps):
         p = flat(*steps)
@@ -37,6 +38,7 @@ class Refusals(unittest.TestCase):
             self.assertGreaterEqual(text(places, p)[0], places + 1)
         for k in (1, 16):
             self.assertGreaterEqual(terms(k, p)[0], 1)
+        self.assertIn(len(ratio(p)), (1, 4))
 
 
 class TooFewTooMany(Refusals):

@@ -166,9 +166,9 @@ class Roots(Terms):
         row.minus(last(row), row.whole(100))
         self.by_decimals(row)
         row = Row()
-        row.plus(row.plus(row.root_of(2), row.root_of(3)), row.root_of(5))
+        total = row.plus(row.plus(row.root_of(2), row.root_of(3)), row.root_of(5))
         self.by_decimals(row)
-        row.over(row.whole(-1), last(row))
+        row.over(row.whole(-1), total)
         self.by_decimals(row)
 
     def test_one_number_made_in_two_ways(self):
