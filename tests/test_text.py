@@ -3,7 +3,9 @@ import unittest
 from fractions import Fraction
 from math import isqrt
 
+from ruledroots.digits import digits_of
 from ruledroots.rows import text
+from ruledroots.tower import Number
 from tests.helper import (
     GREATEST, LEAST, MINUS, OVER, PLUS, TIMES, WHOLE, Row, decimal_text, flat, number_of, pell, text_answer)
 
@@ -303,6 +305,22 @@ class Large(Texts):
             small = row.minus(row.whole(x), row.times(row.whole(y), row.root_of(2)))
             row.over(row.power(GREATEST, 4), small)
             self.by_decimals(row)
+
+
+class BeyondRows(unittest.TestCase):
+    """Just beside the middle at a hundred places, where no row of steps here is known to lie."""
+
+    def test_by_a_small_difference_of_roots(self):
+        far = 10 ** 60
+        for side, (x, y) in pell(GREATEST).items():
+            for low in (0, 1, 6, 7, 10 ** 100 - 1):
+                # low and a half units, and x - y root 2 over far of them.
+                near = Number([(2 * low + 1) * far + 2 * x, -2 * y], 2 * far * 10 ** 100)
+                digits = str(low + (side > 0)).rjust(101, "0")
+                self.assertEqual(digits_of(100, near, {1: [2]}), digits[:-100] + "." + digits[-100:])
+                opposite = Number([-part for part in near.parts], near.under)
+                expected = ("-" if int(digits) else "") + digits[:-100] + "." + digits[-100:]
+                self.assertEqual(digits_of(100, opposite, {1: [2]}), expected)
 
 
 if __name__ == "__main__":
